@@ -1,0 +1,1 @@
+"""Queuemill: a language of funs, deeds and parts, laid to rows of a machine."""
