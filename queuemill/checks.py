@@ -29,9 +29,8 @@ def check_program(program):
 
 
 def check_deed(deed):
-    """Refuse a deed that can stand in no program, whatever its funs are handed."""
-    params = [0] + [None] * (MOST_FUNS - 1)
-    flaw = body_flaw((deed,), MOST_NAMES, params)
+    """Refuse a deed that can stand in no program."""
+    flaw = body_flaw((deed,), MOST_NAMES, [None] * MOST_FUNS)
     if flaw is not None:
         at, why = flaw
         raise BadDeed(at, why)
@@ -66,8 +65,7 @@ def fun_flaw(number, fun, params):
 def body_flaw(body, names, params):
     """(at, why) for the first thing of a body that can't be, None if all can.
 
-    params holds for each fun how many worths it is handed, None where that is
-    open; the first call of such a fun settles it.
+    params holds for each fun how many worths it is handed, None where any count will do.
     """
     todo = [(deed, 0) for deed in reversed(body)]
     at = 0
@@ -135,8 +133,7 @@ def number_flaw(thing, names, params):
 
 
 def takes(fun, many, params):
-    """Whether a fun is handed just so many worths."""
-    if params[fun] is None and many <= MOST_PARAMS:
-        # In one program a fun has one count, so its calls must agree.
-        params[fun] = many
+    """Whether a fun may be handed so many worths."""
+    if params[fun] is None:
+        return many <= MOST_PARAMS
     return params[fun] == many

@@ -106,27 +106,28 @@ class BadDeeds(unittest.TestCase):
         self.assertEqual(flaw(("do", ("call", -1, ()))), (1, "fun"))
 
     def test_any_params(self):
-        for fun in range(1, 8):
+        for fun in range(8):
             for many in range(5):
                 self.assertIsNone(flaw(("do", ("call", fun, (num(1),) * many))), (fun, many))
             self.assertEqual(flaw(("do", ("call", fun, (num(1),) * 5))), (1, "args"), fun)
+            self.assertEqual(flaw(("do", ("call", fun, (num(1),) * 30))), (1, "args"), fun)
 
-    def test_no_program_hands_fun_0_anything(self):
-        self.assertEqual(flaw(("do", ("call", 0, (num(1),)))), (1, "args"))
+    def test_fun_0_may_be_handed_worths(self):
+        self.assertEqual(layers(("say", ("call", 0, (num(1),)))),
+                         [(num(1), ()), (("call", 0, 1), (0,)), (("say",), (1,))])
 
-    def test_no_program_has_two_counts_for_one_fun(self):
-        one = ("call", 1, (num(1),))
-        none = ("call", 1, ())
-        self.assertIsNone(flaw(("do", ("add", one, one))))
-        self.assertIsNone(flaw(("do", ("add", one, ("call", 2, ())))))
-        self.assertEqual(flaw(("do", ("add", one, none))), (4, "args"))
-        self.assertEqual(flaw(("do", ("add", none, one))), (3, "args"))
-        self.assertEqual(flaw(("do", ("call", 1, (none,)))), (2, "args"))
-        self.assertEqual(flaw(("while", one, (("do", none),))), (4, "args"))
+    def test_two_counts_for_one_fun(self):
+        one = ("call", 3, (num(1),))
+        none = ("call", 3, ())
+        self.assertEqual(layers(("say", ("add", none, one))), [
+            (("call", 3, 0), ()), (num(1), ()), (("call", 3, 1), (1,)), (("add",), (0, 2)), (("say",), (3,))])
+        for deed in (("do", ("add", one, none)), ("do", ("call", 3, (none,))), ("while", one, (("do", none),))):
+            self.assertIsNone(flaw(deed), deed)
 
-    def test_what_one_deed_settles_does_not_bind_the_next(self):
-        self.assertIsNone(flaw(("do", ("call", 1, (num(1),)))))
-        self.assertIsNone(flaw(("do", ("call", 1, ()))))
+    def test_a_fault_behind_such_calls_is_told(self):
+        self.assertEqual(flaw(("set", 2, ("call", 0, ("num", 10000000)))), (2, "shape"))
+        self.assertEqual(flaw(("set", 2, ("add", ("call", 0, (num(1),)), num(1000001)))), (4, "number"))
+        self.assertEqual(flaw(("say", ("add", ("call", 3, ()), ("call", 3, (name(8),))))), (4, "name"))
 
     def test_wide(self):
         self.assertEqual(flaw(("say", nots(41))), (41, "wide"))
@@ -150,7 +151,7 @@ class BadDeeds(unittest.TestCase):
         self.assertEqual(flaw(("do", ("call", 8, (num(1),) * 5))), (1, "fun"))
 
     def test_asked_again(self):
-        deed = ("do", ("call", 0, (num(1),)))
+        deed = ("do", ("call", 0, (num(1),) * 5))
         self.assertEqual([flaw(deed), flaw(deed)], [(1, "args"), (1, "args")])
 
 
