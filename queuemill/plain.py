@@ -2,7 +2,7 @@
 
 from queuemill.checks import check_fuel, check_program
 from queuemill.words import parts_of
-from queuemill.worlds import Fault, Long, World, worth_of
+from queuemill.worlds import Fault, Long, World
 
 
 def run(program, fuel):
@@ -98,19 +98,7 @@ class Doing:
             case ("call", fun, _):
                 self.enter(fun, worths)
             case _:
-                frame.worths.append(self.worth_here(frame, thing, worths))
-
-    def worth_here(self, frame, thing, worths):
-        """What a part comes to that is no call."""
-        match thing:
-            case ("num", n):
-                return n
-            case ("name", name):
-                return frame.names[name]
-            case ("get", _):
-                return self.world.held_in(worths[0])
-            case _:
-                return worth_of(thing[0], worths)
+                frame.worths.append(self.world.worth_here(thing, frame.names, worths))
 
     def enter(self, fun, handed):
         self.world.spend_on_call(len(self.frames) - 1)

@@ -34,6 +34,17 @@ class World:
         check_cell(cell)
         self.cells[cell] = worth
 
+    def worth_here(self, row, names, worths):
+        """What a part that calls nothing comes to, by the part itself or by its row."""
+        word = row[0]
+        if word == "num":
+            return row[1]
+        if word == "name":
+            return names[row[1]]
+        if word == "get":
+            return self.held_in(worths[0])
+        return worth_of(word, worths)
+
     def spend_on_call(self, waiting):
         """Pay for one more call, while so many wait already."""
         if waiting >= MOST_WAITING:

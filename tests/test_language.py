@@ -12,6 +12,10 @@ INTERFACE = {
     "errors.py": ("MillError", "BadProgram", "BadDeed", "BadFuel", "BadStages", "BadPaper", "BadText"),
     "programs.py": ("layers",),
     "plain.py": ("run",),
+    "stages.py": ("stages", "turns", "paper", "bound"),
+    "rows.py": ("rows_by", "pile_rows", "queue_rows"),
+    "machines.py": ("run_pile", "run_queue", "held"),
+    "notes.py": ("written", "read"),
 }
 
 LIBRARY = {
@@ -32,7 +36,8 @@ BUILTINS = set("""
 METHODS = set("""
     append clear copy count endswith extend find get index insert isalnum isalpha isdigit islower isspace isupper
     items join keys ljust lower lstrip partition pop remove replace reverse rfind rjust rpartition rsplit rstrip
-    setdefault split splitlines startswith strip update upper values zfill bit_length add discard sort __init__
+    setdefault split splitlines startswith strip update upper values zfill bit_length removeprefix removesuffix isascii
+    add discard sort __init__
 """.split())
 
 DOUBLE = set("__init__ __eq__ __repr__ __str__ __len__ __enter__ __exit__ __call__ __iter__".split())
