@@ -2,13 +2,13 @@
 
 
 def fullest(many, links):
-    """(flows, heights) for so many places and these links (lower, upper, rise).
+    """(flows, heights) for so many places and the links (lower, upper, rise) between them.
 
-    The flows are those with the greatest sum of flow by rise among all that bring
-    to each place, less what they take from it, as much as one along each rising
-    link does. The heights are the least, from 0, among all that keep each link,
-    and each with a flow tightly: so no heights have a lesser sum over the rising
-    links, and of those that have the same none is less at any place.
+    One along each rising link is what flows at first. Of all flows that leave as much
+    at each place as these do, those are told that have the greatest sum over the rising
+    links. The heights are the least ones, from 0, that keep all links, and with no more
+    than its rise each link along which something flows: these are just the heights with
+    the least sum of what the rising links span, since that is as much as flows there.
     """
     flows = [rise for _, _, rise in links]
     while True:

@@ -351,6 +351,13 @@ class Held(unittest.TestCase):
         program = ((0, 0, (("do", ("call", 1, (four,) * 4)),)), (4, 4, ()))
         self.assertEqual([many[2] for many in counts(program)], [7, 16])
 
+    def test_what_was_taken_lies_no_more(self):
+        ahead = (("say", ONE), ("do", ONE), ("set", 0, ONE), ("put", ONE, ONE), ("if", ONE, (), ()), ("if", num(0), (), ()),
+                 ("while", name(0), (("set", 0, num(0)),)), UNEVEN)
+        for many in range(len(ahead) + 1):
+            program = alone(*ahead[:many], ("say", sum_of(12)), names=1)
+            self.assertEqual([most for _, _, most in counts(program)], [12, 3], many)
+
     def test_worths_of_all_funs_lie_at_once(self):
         inner = (0, 0, (("return", ("add", ONE, ("add", ONE, ONE))),))
         program = ((0, 0, (("do", ("add", num(5), ("add", num(6), ("call", 1, ())))),)), inner)

@@ -63,6 +63,10 @@ class RightStages(unittest.TestCase):
         for some in ([False, 1], [0, True], [False, True], ["0", 1], [0, None], [[0], 1], [0, (1,)]):
             self.assertFalse(right(("say", ONE), some), some)
 
+    def test_what_is_no_list(self):
+        for some in ((0, 1), "01", 5):
+            self.assertFalse(right(("say", ONE), some), some)
+
     def test_each_is_greater_than_those_within(self):
         for some in ([0, 0], [1, 0], [5, 5], [1000, 1000], [1000, 0]):
             self.assertFalse(right(("say", ONE), some), some)
@@ -252,7 +256,7 @@ class Papers(unittest.TestCase):
             self.assertFalse(is_taken(TWO_GETS, shown), shown)
 
     def test_what_is_no_tuple_of_two_lists(self):
-        for shown in ((), ([1],), ([1], [], []), ((1,), []), ([1], ())):
+        for shown in ((), ([1],), ([1], [], []), ((1,), []), ([1], ()), [[1], []]):
             self.assertFalse(is_taken(("say", ONE), shown), shown)
 
     def test_what_comes_in_is_what_goes_out_at_each_part(self):
